@@ -22,6 +22,7 @@ class Match:
         self.won = [0, 0]
         self.starter = 0
         self.frame = None
+        self.frames_over = []
 
     def begin(self, best, first):
         if best % 2 == 0 or best < 1 or best > MOST_FRAMES or not is_player(first):
@@ -30,6 +31,7 @@ class Match:
         self.won = [0, 0]
         self.starter = first
         self.frame = Frame(first)
+        self.frames_over = []
         return [0]
 
     def stroke(self, told):
@@ -58,6 +60,7 @@ class Match:
 
     def end_frame(self):
         winner = self.frame.winner
+        self.frames_over.append(self.frame)
         self.won[winner] += 1
         if 2 * self.won[winner] > self.best:
             self.frame = None
@@ -91,6 +94,39 @@ class Match:
         self.frame.toss(who)
         return [0]
 
+    def give(self):
+        if self.frame is None:
+            return [NO_FRAME]
+        if self.frame.turn == TO_BE_TOSSED:
+            return [TOSS_FIRST]
+        frame = self.frame
+        frame.give()
+        self.end_frame()
+        return [frame.winner]
+
+    def now(self):
+        if self.frame is None:
+            return [NO_FRAME]
+        return self.frame.as_it_stands()
+
+    def tell_frames(self):
+        answer = [len(self.frames_over)]
+        for frame in self.frames_over:
+            answer.extend(frame.outcome())
+        return answer
+
+    def tell_match(self):
+        state = 1 if self.frame is None else 0
+        highest = [self.highest_break(0), self.highest_break(1)]
+        big = [self.count_big_breaks(0), self.count_big_breaks(1)]
+        return [state, self.best] + self.won + highest + big
+
+    def highest_break(self, player):
+        return max([frame.highest_breaks[player] for frame in self.frames_over], default=0)
+
+    def count_big_breaks(self, player):
+        return sum([frame.big_breaks[player] for frame in self.frames_over])
+
 
 def is_player(number):
     return number == 0 or number == 1
@@ -120,7 +156,24 @@ def call_toss(the_match, reader):
     return the_match.toss(reader.take_number())
 
 
-CALLS = {1: call_begin, 2: call_stroke, 3: call_again, 4: call_back, 5: call_toss}
+def call_give(the_match, reader):
+    return the_match.give()
+
+
+def call_now(the_match, reader):
+    return the_match.now()
+
+
+def call_frames(the_match, reader):
+    return the_match.tell_frames()
+
+
+def call_match(the_match, reader):
+    return the_match.tell_match()
+
+
+CALLS = {1: call_begin, 2: call_stroke, 3: call_again, 4: call_back, 5: call_toss, 6: call_give, 7: call_now,
+         8: call_frames, 9: call_match}
 
 
 def answers(calls):

@@ -4,6 +4,10 @@ from cuereferee.matches import answers
 
 AGAIN = [3]
 BACK = [4]
+GIVE = [6]
+NOW = [7]
+FRAMES = [8]
+MATCH = [9]
 
 
 def begin(best=1, first=0):
@@ -59,6 +63,15 @@ MISSED_BLACK = stroke(hit=7)
 
 # Costs 7 and moves no ball; no miss is called.
 FOUL_OF_7 = stroke(conduct=7)
+
+
+# Whose turn it is loses the frame by misses; nobody makes a point but by three fouls of 4.
+LOST = [stroke(miss=2), BACK] * 2 + [stroke(miss=2)]
+
+
+def long_break(last):
+    """From a frame's beginning: 97 and the last colour, a red is on and it's the same one's turn."""
+    return [pot(1), pot(7)] * 12 + [pot(1), pot(last)]
 
 
 def clearance():

@@ -1,13 +1,10 @@
 import unittest
 
-from tests.helpers import (BACK, FOUL_OF_7, MISSED_BLACK, MISSED_RED, all_answers, begin, clearance, last_answer, pot,
-                           stroke, tie_by_foul, tie_by_pot, to_lowest, toss)
+from tests.helpers import (BACK, FOUL_OF_7, LOST, MISSED_BLACK, MISSED_RED, all_answers, begin, clearance, last_answer,
+                           pot, stroke, tie_by_foul, tie_by_pot, to_lowest, toss)
 
 # 35 points for the one who doesn't play first.
 FIVE_FOULS = [FOUL_OF_7, MISSED_RED] * 5
-
-# Whose turn it is loses the frame by misses.
-LOST = [stroke(miss=2), BACK] * 2 + [stroke(miss=2)]
 
 
 def who_begins(*calls):

@@ -116,6 +116,7 @@ class WithAFreeBall(FoulCase):
     def test_another_ball_is_hit(self):
         self.check_foul(4, FREE, hit=1, named=7)
         self.check_foul(5, FREE, hit=5, named=7)
+        self.check_foul(7, FREE, hit=7, named=5)
         self.check_foul(4, FREE, hit=0, named=7)
 
     def test_the_ball_that_is_free_costs_no_more_than_what_it_stands_for(self):

@@ -3,10 +3,12 @@ import io
 import unittest
 
 from cuereferee.matches import answers
-from tests.helpers import AGAIN, BACK, MISSED_RED, begin, clearance, joined, stroke, tie_by_foul, toss
+from tests.helpers import (AGAIN, BACK, FRAMES, GIVE, MATCH, MISSED_RED, NOW, begin, clearance, joined, pot, stroke,
+                           tie_by_foul, toss)
 
-EVERYTHING = [begin(3), stroke(hidden=1, miss=2), BACK, stroke(hit=7, potted=[1, 7], off=[0], miss=1), AGAIN,
-              MISSED_RED, *clearance(), *tie_by_foul(), toss(1), stroke(hit=7, potted=[7]), toss(3), begin(2)]
+EVERYTHING = [FRAMES, MATCH, begin(3), stroke(hidden=1, miss=2), BACK, stroke(hit=7, potted=[1, 7], off=[0], miss=1),
+              AGAIN, NOW, MISSED_RED, *clearance(), *tie_by_foul(), GIVE, NOW, toss(1), stroke(hit=7, potted=[7]),
+              toss(3), begin(2), NOW, pot(1), GIVE, FRAMES, MATCH]
 
 
 class Watched(list):
@@ -28,6 +30,18 @@ class Interface(unittest.TestCase):
 
     def test_three_numbers_if_the_frame_is_over(self):
         self.assertEqual(answers(joined([begin(), *clearance()]))[-4:], [3, 1, 7, 1])
+
+    def test_ten_of_now_and_eight_of_match(self):
+        self.assertEqual(answers([1, 1, 0, 7, 9]), [1, 0, 10, 0, 0, 0, 15, 1, 0, 147, 0, 0, 0,
+                                                    8, 0, 1, 0, 0, 0, 0, 0, 0])
+
+    def test_six_for_each_frame(self):
+        self.assertEqual(answers([8, 1, 3, 0, 6, 8, 2, 0, 1, 0, 0, 0, 0, 0, 6, 8]),
+                         [1, 0, 1, 0, 1, 1, 7, 1, 1, 1, 0, 0, 0, 0, 7, 0, 0, 0, 0, 1, 0, 0,
+                          1, 1, 13, 2, 1, 1, 0, 0, 0, 0, 1, 1, 0, 0, 0, 0])
+
+    def test_a_refusal_is_its_number_alone(self):
+        self.assertEqual(answers([6, 7, 8, 9]), [1, -2, 1, -2, 1, 0, 8, 1, 0, 0, 0, 0, 0, 0, 0])
 
     def test_rows_that_are_empty_or_long(self):
         self.assertEqual(answers([2, 0, 1, 0, 0, 0, 0, 0, 3]), [1, -2, 1, -2])
@@ -62,3 +76,4 @@ class Interface(unittest.TestCase):
         long_stroke = stroke(hit=1, potted=[1] * 30, off=[1] * 30)
         self.assertEqual(answers(begin() + long_stroke * 399), [1, 0] + [1, -4] * 399)
         self.assertEqual(len(answers(AGAIN * 400)), 800)
+        self.assertEqual(len(answers(begin(35) + GIVE * 35 + FRAMES * 364)), 2 * 36 + 364 * (1 + 1 + 6 * 35))
